@@ -1,0 +1,1 @@
+"""Islands, fords of unknown heights, and a water that rises."""

@@ -1,0 +1,25 @@
+"""Helpers over plain values that several files need."""
+
+
+def frozen(value):
+    """The value with tuples for lists, at any depth."""
+    if isinstance(value, (list, tuple)):
+        return tuple([frozen(part) for part in value])
+    return value
+
+
+def ascending(values):
+    """The set of the values: an ascending tuple without duplicates."""
+    return tuple(sorted(set(values)))
+
+
+def is_ascending(values):
+    """Whether each of the values is less than the next one."""
+    return all([one < other for one, other in zip(values, values[1:])])
+
+
+def is_name(thing):
+    """Whether thing is a NAME: a string of 1 to 8 letters a to z."""
+    # A string that is ASCII, of letters alone, and lower-case has letters a to z alone.
+    return (isinstance(thing, str) and 1 <= len(thing) <= 8
+            and thing.isascii() and thing.isalpha() and thing.islower())
