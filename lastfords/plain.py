@@ -23,3 +23,8 @@ def is_name(thing):
     # A string that is ASCII, of letters alone, and lower-case has letters a to z alone.
     return (isinstance(thing, str) and 1 <= len(thing) <= 8
             and thing.isascii() and thing.isalpha() and thing.islower())
+
+
+def is_number(thing, least):
+    """Whether thing is a number, no bool, and at least this one."""
+    return isinstance(thing, int) and not isinstance(thing, bool) and thing >= least

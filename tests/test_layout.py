@@ -4,13 +4,30 @@ import ast
 import pathlib
 import unittest
 
+import lastfords.closures
+import lastfords.floods
+import lastfords.partings
+import lastfords.risings
 import lastfords.talks
 
 FOLDER = pathlib.Path(__file__).resolve().parent.parent / "lastfords"
 TALKS = ("is_pair", "is_pairs", "is_rule", "is_flood", "Talk", "pair_text", "pairs_text", "rule_text", "flood_text",
          "with_rule", "without_rule", "with_flood", "without_flood", "flood_told", "with_islands", "only_islands",
          "renamed")
-MODULES = {"lastfords.talks": (lastfords.talks, TALKS)}
+CLOSURES = ("closure", "closed_lots", "follows", "steps_to", "is_steps", "fords_against", "is_fords_against",
+            "least_wants", "says_no_less", "alike_rules", "parting_rule", "idle_rules", "thinned", "never_later", "mates",
+            "told_of")
+PARTINGS = ("is_parting", "pairs_joined", "lots_from", "is_finer", "both_join", "either_joins", "broken_by", "is_state",
+            "least_state", "join_states", "all_states", "how_many_states", "state_at", "number_of_state", "next_above",
+            "next_below", "told_again", "are_told", "rules_for")
+RISINGS = ("how_many_histories", "history_at", "is_history", "number_of_history", "lengths", "shortest", "longest",
+           "some_shortest", "some_longest", "next_states", "histories_behind", "histories_with", "share_with",
+           "possible_states", "sure_states", "parted_at", "parted_first", "fords_in", "partings_by")
+FLOODS = ("can_be", "stuck_lot", "is_stuck", "least_stuck_lots", "waters", "fewest_waters", "lowest_floods",
+          "highest_floods", "is_order", "how_many_orders", "nth_order", "order_number", "fit_by", "is_fit")
+MODULES = {"lastfords.talks": (lastfords.talks, TALKS), "lastfords.closures": (lastfords.closures, CLOSURES),
+           "lastfords.partings": (lastfords.partings, PARTINGS), "lastfords.risings": (lastfords.risings, RISINGS),
+           "lastfords.floods": (lastfords.floods, FLOODS)}
 LIBRARY = ("heapq", "math", "itertools", "collections")
 
 

@@ -2,7 +2,7 @@
 
 import unittest
 
-from lastfords.plain import ascending, frozen, is_ascending, is_name
+from lastfords.plain import ascending, frozen, is_ascending, is_name, is_number
 
 
 class PlainTest(unittest.TestCase):
@@ -27,6 +27,12 @@ class PlainTest(unittest.TestCase):
                  "`", "{", None, True, 0, ("a",), ["a"])
         for thing in wrong:
             self.assertIs(is_name(thing), False, thing)
+
+    def test_is_number(self):
+        for thing, least in ((0, 0), (1, 0), (1, 1), (10 ** 60, 1), (-1, -1)):
+            self.assertIs(is_number(thing, least), True)
+        for thing, least in ((-1, 0), (0, 1), (True, 0), (True, 1), (False, 0), (None, 0), ("1", 0), ((1,), 0), ([], 0)):
+            self.assertIs(is_number(thing, least), False)
 
 
 if __name__ == "__main__":
