@@ -72,7 +72,7 @@ def least_stuck_lots(talk):
         chosen = tuple([name for place, name in enumerate(names) if (bits >> place) & 1 == 1])
         if not any([(bits & lot) == lot for lot, _ in found]) and is_stuck(talk, chosen):
             found.append((bits, chosen))
-    return sorted([chosen for _, chosen in found])
+    return sorted([lot for _, lot in found])
 
 
 def waters(talk):
