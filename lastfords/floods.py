@@ -3,7 +3,7 @@
 from lastfords.errors import NoNumber, NoOrder, Stuck
 from lastfords.heights import is_fords_of, keeps_rules, last_waters
 from lastfords.lots import closed_marks, joins, joins_none
-from lastfords.plain import frozen, is_number
+from lastfords.plain import frozen, is_number, least_lots
 
 
 def marks_at_lowest(talk, floods):
@@ -66,13 +66,8 @@ def is_stuck(talk, names):
 def least_stuck_lots(talk):
     """The ascending list of the stuck lots within which no other one lies."""
     names = talk.names
-    found = []
-    # A number's bits tell FLOODS; all lots within a lot have lesser numbers, so they come first.
-    for bits in range(1, 1 << len(names)):
-        chosen = tuple([name for place, name in enumerate(names) if (bits >> place) & 1 == 1])
-        if not any([(bits & lot) == lot for lot, _ in found]) and is_stuck(talk, chosen):
-            found.append((bits, chosen))
-    return sorted([lot for _, lot in found])
+    lots = least_lots(len(names), lambda places: is_stuck(talk, [names[place] for place in places]))
+    return sorted([tuple([names[place] for place in places]) for places in lots])
 
 
 def waters(talk):
@@ -167,7 +162,7 @@ def first_with(orders, left, number):
     counts = [orders.many(without_name(left, name)) for name in firsts]
     place = 0
     while number >= counts[place]:
-        number -= counts[place]
+        number = number - counts[place]
         place += 1
     return (firsts[place], number)
 
@@ -182,7 +177,7 @@ def order_number(talk, order):
     number = 0
     for name in given:
         lesser = [first for first in orders.firsts(left) if first < name]
-        number += sum([orders.many(without_name(left, first)) for first in lesser])
+        number = number + sum([orders.many(without_name(left, first)) for first in lesser])
         left = without_name(left, name)
     return number
 

@@ -1,6 +1,6 @@
 """FORDS: what is joined at a water, and the waters at which PAIRs are parted."""
 
-from lastfords.lots import all_merged, joins, marks_alone
+from lastfords.lots import all_merged, joins, marks_alone, merged
 from lastfords.plain import ascending, is_number
 
 
@@ -25,14 +25,22 @@ def marks_at(islands, fords, water):
     return all_merged(marks_alone(islands), [pair for pair, height in fords if height > water])
 
 
+def from_highest(fords):
+    """The FORDS from the highest ford on."""
+    return [(pair, height) for height, pair in sorted([(height, pair) for pair, height in fords], reverse=True)]
+
+
 def last_waters(islands, fords):
     """Of each PAIR the least water at which it is parted, as a dict."""
     found = {}
-    for water in turning_points(fords):
-        marks = marks_at(islands, fords, water)
-        for pair, _ in fords:
-            if pair not in found and not joins(marks, pair):
-                found[pair] = water
+    marks = marks_alone(islands)
+    for pair, height in from_highest(fords):
+        if not joins(marks, pair):
+            marks = merged(marks, pair)
+            # No higher ford joined these PAIRs: they are joined as long as this ford stands out.
+            for other, _ in fords:
+                if other not in found and joins(marks, other):
+                    found[other] = height
     return found
 
 

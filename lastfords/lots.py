@@ -28,12 +28,18 @@ def joins(marks, pair):
 
 def joins_all(marks, pairs):
     """Whether each of the PAIRs is joined."""
-    return all([joins(marks, pair) for pair in pairs])
+    for one, other in pairs:
+        if marks[one] != marks[other]:
+            return False
+    return True
 
 
 def joins_none(marks, pairs):
     """Whether each of the PAIRs is parted."""
-    return not any([joins(marks, pair) for pair in pairs])
+    for one, other in pairs:
+        if marks[one] == marks[other]:
+            return False
+    return True
 
 
 def pairs_of(marks):
@@ -71,10 +77,13 @@ def first_broken(rules, marks):
 
 def settled(rules, marks):
     """The marks by which no more is joined than all of the RULEs ask for."""
-    broken = first_broken(rules, marks)
-    while broken is not None:
-        marks = merged(marks, broken[1])
-        broken = first_broken(rules, marks)
+    changed = True
+    while changed:
+        changed = False
+        for wants, gives in rules:
+            if not joins(marks, gives) and joins_all(marks, wants):
+                marks = merged(marks, gives)
+                changed = True
     return marks
 
 

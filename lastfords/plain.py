@@ -28,3 +28,15 @@ def is_name(thing):
 def is_number(thing, least):
     """Whether thing is a number, no bool, and at least this one."""
     return isinstance(thing, int) and not isinstance(thing, bool) and thing >= least
+
+
+def least_lots(many, is_right):
+    """The set of all sets of places, of so many, that are right and within which no other right one lies."""
+    found = []
+    # A number's bits tell places; all sets within a set have lesser numbers, so they come first.
+    for bits in range(1 << many):
+        if not any([bits & lot == lot for lot, _ in found]):
+            places = tuple([place for place in range(many) if (bits >> place) & 1 == 1])
+            if is_right(places):
+                found.append((bits, places))
+    return ascending([places for _, places in found])

@@ -116,7 +116,7 @@ def spot_with(rise, spot, number):
     later = rise.later(spot)
     place = 0
     while number >= rise.many(later[place]):
-        number -= rise.many(later[place])
+        number = number - rise.many(later[place])
         place += 1
     return (later[place], number)
 
@@ -131,7 +131,7 @@ def number_of_history(talk, partings):
     spot = rise.start
     for state in history:
         place = rise.states.index(state)
-        number += sum([rise.many(later) for later in rise.later(spot) if later[0] < place])
+        number = number + sum([rise.many(later) for later in rise.later(spot) if later[0] < place])
         spot = (place, spot[1] | rise.bits[place])
     return number
 
@@ -257,7 +257,7 @@ def how_many_have(rise):
     layer = spread(rise, {rise.start: 1}, every)
     while layer:
         for spot in layer:
-            counts[spot[0]] += layer[spot] * rise.many(spot)
+            counts[spot[0]] = counts[spot[0]] + layer[spot] * rise.many(spot)
         layer = spread(rise, layer, every)
     return counts
 

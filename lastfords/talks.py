@@ -114,6 +114,11 @@ def read_talk(text):
         raise BadText() from None
 
 
+def pairs_between(islands):
+    """The set of all PAIRs of the ISLANDs, a set."""
+    return tuple([(one, other) for one in islands for other in islands if one < other])
+
+
 def pairs_names(pairs):
     """The NAMEs in the PAIRs, one behind another."""
     return [name for pair in pairs for name in pair]
@@ -192,7 +197,7 @@ class Talk:
     @property
     def pairs(self):
         """The set of all PAIRs of the ISLANDs."""
-        return tuple([(one, other) for one in self._islands for other in self._islands if one < other])
+        return pairs_between(self._islands)
 
     @property
     def text(self):
