@@ -3,13 +3,12 @@
 Lists for tuples and by names, arguments that stay as they were, the same call twice, lists that the caller changes.
 """
 
-import copy
-import inspect
 import unittest
 
 from lastfords import closures, floods, partings, risings
 from lastfords.talks import Talk
-from tests.helpers import AB, AC, AD, BC, BD, CD, Case, listed
+from tests.calling import Calls
+from tests.helpers import AB, AC, AD, BC, BD, CD, Case
 
 FOUR = ("a", "b", "c", "d")
 EVERY, NONE, SOME, SIDE = ((("a", "b", "c"),), (("a",), ("b",), ("c",)), (("a",), ("b", "c")), (("a", "c"), ("b",)))
@@ -100,76 +99,12 @@ CALLS = {
 }
 
 
-def spoil(value):
-    """Changes all lists in the value."""
-    if isinstance(value, (list, tuple)):
-        for part in value:
-            spoil(part)
-    if isinstance(value, list):
-        value[:] = ["spoiled"]
+class CallsTest(Calls, Case):
 
-
-def plain(value):
-    """The value with the texts of Talks for these, so that its repr tells all of it."""
-    if isinstance(value, Talk):
-        return ("Talk", value.text)
-    if isinstance(value, (list, tuple)):
-        return type(value)([plain(part) for part in value])
-    return value
-
-
-class CallsTest(Case):
-
-    def calls(self):
-        for function, (names, asked) in CALLS.items():
-            for given in asked:
-                yield function, names.split(), given
-
-    def turned(self, names, given):
-        """The arguments with lists for tuples, but for what is called thing."""
-        return [part if name == "thing" else listed(part) for name, part in zip(names, given)]
-
-    def test_all_functions_of_the_interface_are_called(self):
-        self.assertEqual(len(CALLS), 16 + 19 + 19 + 14)
-        for function, (names, _) in CALLS.items():
-            self.assertEqual(list(inspect.signature(function).parameters), names.split(), function)
-
-    def test_lists_names_and_twice(self):
-        for function, names, given in self.calls():
-            expected = repr(plain(function(*given)))
-            turned = self.turned(names, given)
-            for found in (function(*given), function(*turned), function(**dict(zip(names, given))),
-                          function(**dict(zip(names, turned)))):
-                self.assertEqual(repr(plain(found)), expected, (function, given))
-
-    def test_arguments_stay_as_they_were(self):
-        for function, names, given in self.calls():
-            turned = self.turned(names, given)
-            kept, before = copy.deepcopy(turned), repr(plain(turned))
-            function(*turned)
-            self.assertEqual(repr(plain(turned)), before, function)
-            self.assertEqual(turned, kept, function)
-
-    def test_answers_belong_to_the_caller(self):
-        for function, names, given in self.calls():
-            turned = self.turned(names, given)
-            found = function(*turned)
-            expected = repr(plain(found))
-            spoil(found)
-            spoil(turned)
-            again = function(*given)
-            self.assertEqual(repr(plain(again)), expected, function)
-            spoil(again)
-            self.assertEqual(repr(plain(function(*given))), expected, function)
-
-    def test_answers_have_tuples_but_for_the_lists_that_are_told(self):
-        lists = (partings.next_above, partings.next_below, partings.all_states, partings.told_again, risings.lengths,
-                 risings.next_states, risings.parted_at, floods.waters, floods.least_stuck_lots)
-        for function, _, given in self.calls():
-            found = function(*given)
-            self.assertIs(type(found) is list, function in lists, function)
-            inner = list(found) if isinstance(found, (list, tuple)) else []
-            self.assertNotIn("[", repr(plain(inner))[1:-1], function)
+    CALLS = CALLS
+    MANY = 16 + 19 + 19 + 14
+    LISTS = (partings.next_above, partings.next_below, partings.all_states, partings.told_again, risings.lengths,
+             risings.next_states, risings.parted_at, floods.waters, floods.least_stuck_lots)
 
 
 class SmallTalksTest(Case):

@@ -7,9 +7,11 @@ so a list is no tuple, and True is no number.
 import itertools
 import unittest
 
+from lastfords.board import Board
 from lastfords.closures import is_fords_against, is_steps
 from lastfords.errors import NoIsland
 from lastfords.floods import is_fit, is_order
+from lastfords.looks import Looks
 from lastfords.partings import is_parting, is_state
 from lastfords.risings import is_history
 from lastfords.talks import Talk
@@ -17,7 +19,8 @@ from tests import reckoning
 from tests.helpers import AB, AC, AD, BC, BD, CD, Case, listed
 from tests.reckoning import all_fords, all_partings, histories, joined_at, keeps, states
 
-BELOW = (None, True, False, "", "a", "zz", 0, 1, -1, (), [], ("a",), (1,), Talk(), Talk.of("a b"))
+BELOW = (None, True, False, "", "a", "zz", 0, 1, -1, (), [], ("a",), (1,), Talk(), Talk.of("a b"), Board(),
+         Looks(Talk()))
 
 
 def deep(kind, value):
